@@ -1,0 +1,31 @@
+package checks
+
+import (
+	"strings"
+	"testing"
+)
+
+type layer struct{ face, words string }
+
+// TestWays: each layer that is built leans on what the document's section Ways says of it.
+func TestWays(t *testing.T) {
+	for _, row := range built() {
+		t.Run(row.face, func(t *testing.T) {
+			t.Parallel()
+			missing, err := waysMissing("..", "escapement", []string{row.face}, strings.Fields(row.words))
+			if err != nil {
+				t.Fatal(err)
+			}
+			for _, word := range missing {
+				t.Errorf("%s: way missing: %s", row.face, word)
+			}
+		})
+	}
+}
+
+// built: the layers that are built, each with the ways that it leans on.
+func built() []layer {
+	return []layer{
+		{"num", "label closure range-integer"},
+	}
+}
