@@ -27,5 +27,6 @@ func TestWays(t *testing.T) {
 func built() []layer {
 	return []layer{
 		{"num", "label closure range-integer"},
+		{"cells", "defer method-value closure copy"},
 	}
 }
