@@ -28,5 +28,6 @@ func built() []layer {
 	return []layer{
 		{"num", "label closure range-integer"},
 		{"cells", "defer method-value closure copy"},
+		{"note", "iota"},
 	}
 }
