@@ -29,5 +29,6 @@ func built() []layer {
 		{"num", "label closure range-integer"},
 		{"cells", "defer method-value closure copy"},
 		{"note", "iota"},
+		{"ticket", "embedding promoted method-value"},
 	}
 }
