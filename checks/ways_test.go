@@ -30,5 +30,6 @@ func built() []layer {
 		{"cells", "defer method-value closure copy"},
 		{"note", "iota"},
 		{"ticket", "embedding promoted method-value"},
+		{"bitmap", "closure label range-integer method-value"},
 	}
 }
