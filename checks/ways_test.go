@@ -31,5 +31,6 @@ func built() []layer {
 		{"note", "iota"},
 		{"ticket", "embedding promoted method-value"},
 		{"bitmap", "closure label range-integer method-value"},
+		{"isa", "array constant-table fallthrough"},
 	}
 }
