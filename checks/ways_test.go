@@ -32,5 +32,6 @@ func built() []layer {
 		{"ticket", "embedding promoted method-value"},
 		{"bitmap", "closure label range-integer method-value"},
 		{"isa", "array constant-table fallthrough"},
+		{"code", "method-value panic assertion recover defer closure"},
 	}
 }
