@@ -33,5 +33,6 @@ func built() []layer {
 		{"bitmap", "closure label range-integer method-value"},
 		{"isa", "array constant-table fallthrough"},
 		{"code", "method-value panic assertion recover defer closure"},
+		{"flow", "closure iota"},
 	}
 }
