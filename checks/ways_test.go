@@ -34,5 +34,6 @@ func built() []layer {
 		{"isa", "array constant-table fallthrough"},
 		{"code", "method-value panic assertion recover defer closure"},
 		{"flow", "closure iota"},
+		{"valid", "label closure copy"},
 	}
 }
