@@ -35,5 +35,6 @@ func built() []layer {
 		{"code", "method-value panic assertion recover defer closure"},
 		{"flow", "closure iota"},
 		{"valid", "label closure copy"},
+		{"asm", "label method-value array"},
 	}
 }
