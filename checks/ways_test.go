@@ -36,5 +36,6 @@ func built() []layer {
 		{"flow", "closure iota"},
 		{"valid", "label closure copy"},
 		{"asm", "label method-value array"},
+		{"vm", "method-expression fallthrough closure"},
 	}
 }
