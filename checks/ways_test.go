@@ -37,5 +37,6 @@ func built() []layer {
 		{"valid", "label closure copy"},
 		{"asm", "label method-value array"},
 		{"vm", "method-expression fallthrough closure"},
+		{"alone", "embedding promoted method-value label"},
 	}
 }
