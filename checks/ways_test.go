@@ -38,5 +38,6 @@ func built() []layer {
 		{"asm", "label method-value array"},
 		{"vm", "method-expression fallthrough closure"},
 		{"alone", "embedding promoted method-value label"},
+		{"ring", "method-value label closure"},
 	}
 }
