@@ -39,5 +39,6 @@ func built() []layer {
 		{"vm", "method-expression fallthrough closure"},
 		{"alone", "embedding promoted method-value label"},
 		{"ring", "method-value label closure"},
+		{"micro", "function-field method-expression embedding promoted variadic iota"},
 	}
 }
