@@ -40,5 +40,6 @@ func built() []layer {
 		{"alone", "embedding promoted method-value label"},
 		{"ring", "method-value label closure"},
 		{"micro", "function-field method-expression embedding promoted variadic iota"},
+		{"weave", "method-value function-field closure iota range-integer"},
 	}
 }
