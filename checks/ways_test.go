@@ -41,5 +41,6 @@ func built() []layer {
 		{"ring", "method-value label closure"},
 		{"micro", "function-field method-expression embedding promoted variadic iota"},
 		{"weave", "method-value function-field closure iota range-integer"},
+		{"glob", "label variadic method-value"},
 	}
 }
