@@ -42,5 +42,6 @@ func built() []layer {
 		{"micro", "function-field method-expression embedding promoted variadic iota"},
 		{"weave", "method-value function-field closure iota range-integer"},
 		{"glob", "label variadic method-value"},
+		{"deal", "range-function label"},
 	}
 }
