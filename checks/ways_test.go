@@ -43,5 +43,6 @@ func built() []layer {
 		{"weave", "method-value function-field closure iota range-integer"},
 		{"glob", "label variadic method-value"},
 		{"deal", "range-function label"},
+		{"gstat", "array"},
 	}
 }
