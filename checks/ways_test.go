@@ -44,5 +44,6 @@ func built() []layer {
 		{"glob", "label variadic method-value"},
 		{"deal", "range-function label"},
 		{"gstat", "array"},
+		{"pstat", "closure struct-compared fallthrough"},
 	}
 }
