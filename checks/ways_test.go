@@ -45,5 +45,6 @@ func built() []layer {
 		{"deal", "range-function label"},
 		{"gstat", "array"},
 		{"pstat", "closure struct-compared fallthrough"},
+		{"idle", "label method-value"},
 	}
 }
