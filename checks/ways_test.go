@@ -46,5 +46,6 @@ func built() []layer {
 		{"gstat", "array"},
 		{"pstat", "closure struct-compared fallthrough"},
 		{"idle", "label method-value"},
+		{"sig", "array assertion label method-value"},
 	}
 }
