@@ -47,5 +47,6 @@ func built() []layer {
 		{"pstat", "closure struct-compared fallthrough"},
 		{"idle", "label method-value"},
 		{"sig", "array assertion label method-value"},
+		{"sema", "three-index closure fallthrough"},
 	}
 }
