@@ -48,5 +48,6 @@ func built() []layer {
 		{"idle", "label method-value"},
 		{"sig", "array assertion label method-value"},
 		{"sema", "three-index closure fallthrough"},
+		{"procs", "three-index method-expression closure method-value"},
 	}
 }
