@@ -49,5 +49,6 @@ func built() []layer {
 		{"sig", "array assertion label method-value"},
 		{"sema", "three-index closure fallthrough"},
 		{"procs", "three-index method-expression closure method-value"},
+		{"spread", "map delete closure"},
 	}
 }
