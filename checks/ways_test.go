@@ -50,5 +50,6 @@ func built() []layer {
 		{"sema", "three-index closure fallthrough"},
 		{"procs", "three-index method-expression closure method-value"},
 		{"spread", "map delete closure"},
+		{"decide", "iota fallthrough array"},
 	}
 }
