@@ -51,5 +51,6 @@ func built() []layer {
 		{"procs", "three-index method-expression closure method-value"},
 		{"spread", "map delete closure"},
 		{"decide", "iota fallthrough array"},
+		{"susp", "iota fallthrough map delete range-map"},
 	}
 }
