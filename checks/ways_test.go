@@ -52,5 +52,6 @@ func built() []layer {
 		{"spread", "map delete closure"},
 		{"decide", "iota fallthrough array"},
 		{"susp", "iota fallthrough map delete range-map"},
+		{"model", "method-expression closure function-field method-value"},
 	}
 }
