@@ -53,5 +53,6 @@ func built() []layer {
 		{"decide", "iota fallthrough array"},
 		{"susp", "iota fallthrough map delete range-map"},
 		{"model", "method-expression closure function-field method-value"},
+		{"machine", "method-expression iota embedding promoted method-value fallthrough"},
 	}
 }
