@@ -148,7 +148,7 @@ func (a *auditor) step(e api.Entry) {
 		}
 		a.calls(event, was, s)
 	} else {
-		a.counts(s, false)
+		a.counts(s)
 	}
 	a.places(s)
 	a.stopped(s)
@@ -160,8 +160,8 @@ func (a *auditor) step(e api.Entry) {
 }
 
 // counts: they go up while somebody's barrier is under way alone.
-func (a *auditor) counts(s api.Snap, begins bool) {
-	if !begins && len(a.barrier) == 0 && len(s.Counts) == len(a.before.Counts) && !slices.Equal(s.Counts, a.before.Counts) {
+func (a *auditor) counts(s api.Snap) {
+	if len(a.barrier) == 0 && len(s.Counts) == len(a.before.Counts) && !slices.Equal(s.Counts, a.before.Counts) {
 		a.fail("counts went up")
 	}
 }
@@ -171,7 +171,7 @@ func (a *auditor) calls(e api.Event, was bool, s api.Snap) {
 	switch {
 	case e.Kind == api.EvBegin:
 		if i.Op == api.OpBarrier {
-			a.counts(s, true)
+			a.counts(s)
 			a.barrier[e.G] = a.before.Counts
 		}
 		for g := range a.alone { // something else begins
@@ -187,7 +187,7 @@ func (a *auditor) calls(e api.Event, was bool, s api.Snap) {
 	case i.Op == api.OpBarrier && was:
 		from := a.barrier[e.G]
 		for p := range from {
-			if s.Counts[p] != from[p]+1 {
+			if s.Counts[p] != from[p]+1 || a.before.Counts[p] != from[p]+1 {
 				a.fail("a barrier did not come by just once", from, s.Counts)
 			}
 		}
@@ -198,7 +198,7 @@ func (a *auditor) calls(e api.Event, was bool, s api.Snap) {
 	default:
 		delete(a.begun, e.G)
 		delete(a.alone, e.G)
-		a.counts(s, false)
+		a.counts(s)
 	}
 	for g := range a.alone {
 		th, _ := a.model.Thread(g)

@@ -1,6 +1,10 @@
 package machine
 
-import "escapement/api"
+import (
+	"slices"
+
+	"escapement/api"
+)
 
 // turn: may a goroutine touch the world? If not, it waits till it is its turn.
 func (w *world) turn(m *machine) bool {
@@ -99,35 +103,29 @@ func (w *world) barrier(m *machine, _ api.Instr) (api.Event, bool) {
 	}
 	for p := range w.owed {
 		w.owed[p] = true
+		if w.status.Get(p) == api.PRunning && p != m.p {
+			w.preempt(w.ms[w.status.Who(p)])
+		}
 	}
-	w.serve(m.p)
-	w.serveOthers()
 	return w.begin(m)
 }
 
-// serveOthers serves for the processors that run nothing, and asks for the others: has the barrier come by all?
-func (w *world) serveOthers() bool {
-	all := true
-	for p, owed := range w.owed {
-		if !owed {
-			continue
-		}
-		if w.status.Get(p) == api.PRunning {
-			w.preempt(w.ms[w.status.Who(p)])
-			all = false
-			continue
-		}
-		w.serve(p)
-	}
-	return all
-}
-
+// finishBarrier serves for the own processor, and for those that run nothing, in a step of its own; it commits when all have served.
 func (w *world) finishBarrier(m *machine) (api.Event, bool) {
-	if !w.serveOthers() {
-		return api.Event{}, false
+	if !slices.Contains(w.owed, true) {
+		w.pass(m.g)
+		return w.commit(m, 0)
 	}
-	w.pass(m.g)
-	return w.commit(m, 0)
+	for p, owed := range w.owed {
+		switch {
+		case !owed:
+		case p != m.p && w.status.Get(p) == api.PRunning:
+			w.preempt(w.ms[w.status.Who(p)])
+		default:
+			w.serve(p)
+		}
+	}
+	return api.Event{}, false
 }
 
 func (w *world) resize(m *machine, i api.Instr) (api.Event, bool) {
