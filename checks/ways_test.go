@@ -54,5 +54,6 @@ func built() []layer {
 		{"susp", "iota fallthrough map delete range-map"},
 		{"model", "method-expression closure function-field method-value"},
 		{"machine", "method-expression iota embedding promoted method-value fallthrough"},
+		{"event", "label variadic closure fallthrough"},
 	}
 }
