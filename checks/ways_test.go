@@ -55,5 +55,6 @@ func built() []layer {
 		{"model", "method-expression closure function-field method-value"},
 		{"machine", "method-expression iota embedding promoted method-value fallthrough"},
 		{"event", "label variadic closure fallthrough"},
+		{"script", "array label method-value closure"},
 	}
 }
