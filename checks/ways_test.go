@@ -56,5 +56,6 @@ func built() []layer {
 		{"machine", "method-expression iota embedding promoted method-value fallthrough"},
 		{"event", "label variadic closure fallthrough"},
 		{"script", "array label method-value closure"},
+		{"fair", "label method-value closure"},
 	}
 }
