@@ -57,5 +57,6 @@ func built() []layer {
 		{"event", "label variadic closure fallthrough"},
 		{"script", "array label method-value closure"},
 		{"fair", "label method-value closure"},
+		{"audit", "function-field array closure variadic"},
 	}
 }
