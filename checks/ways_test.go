@@ -58,5 +58,6 @@ func built() []layer {
 		{"script", "array label method-value closure"},
 		{"fair", "label method-value closure"},
 		{"audit", "function-field array closure variadic"},
+		{"gen", "variadic array embedding promoted method-value"},
 	}
 }
