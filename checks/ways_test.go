@@ -59,5 +59,6 @@ func built() []layer {
 		{"fair", "label method-value closure"},
 		{"audit", "function-field array closure variadic"},
 		{"gen", "variadic array embedding promoted method-value"},
+		{"tally", "map range-map closure variadic"},
 	}
 }
