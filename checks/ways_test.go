@@ -60,5 +60,6 @@ func built() []layer {
 		{"audit", "function-field array closure variadic"},
 		{"gen", "variadic array embedding promoted method-value"},
 		{"tally", "map range-map closure variadic"},
+		{"console", "errors-as closure variadic"},
 	}
 }
