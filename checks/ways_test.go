@@ -61,5 +61,6 @@ func built() []layer {
 		{"gen", "variadic array embedding promoted method-value"},
 		{"tally", "map range-map closure variadic"},
 		{"console", "errors-as closure variadic"},
+		{"span", "map delete closure method-value"},
 	}
 }
