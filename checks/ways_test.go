@@ -62,5 +62,6 @@ func built() []layer {
 		{"tally", "map range-map closure variadic"},
 		{"console", "errors-as closure variadic"},
 		{"span", "map delete closure method-value"},
+		{"reach", "embedding promoted map method-value label method-expression"},
 	}
 }
