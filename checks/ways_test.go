@@ -63,5 +63,6 @@ func built() []layer {
 		{"console", "errors-as closure variadic"},
 		{"span", "map delete closure method-value"},
 		{"reach", "embedding promoted map method-value label method-expression"},
+		{"lint", "iota closure range-function map"},
 	}
 }
