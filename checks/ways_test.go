@@ -64,5 +64,6 @@ func built() []layer {
 		{"span", "map delete closure method-value"},
 		{"reach", "embedding promoted map method-value label method-expression"},
 		{"lint", "iota closure range-function map"},
+		{"mark", "closure label copy"},
 	}
 }
