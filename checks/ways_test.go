@@ -65,5 +65,6 @@ func built() []layer {
 		{"reach", "embedding promoted map method-value label method-expression"},
 		{"lint", "iota closure range-function map"},
 		{"mark", "closure label copy"},
+		{"pct", "closure three-index method-value"},
 	}
 }
