@@ -66,5 +66,6 @@ func built() []layer {
 		{"lint", "iota closure range-function map"},
 		{"mark", "closure label copy"},
 		{"pct", "closure three-index method-value"},
+		{"shrink", "label closure method-value"},
 	}
 }
