@@ -67,5 +67,6 @@ func built() []layer {
 		{"mark", "closure label copy"},
 		{"pct", "closure three-index method-value"},
 		{"shrink", "label closure method-value"},
+		{"dump", "method-value embedding promoted array variadic iota"},
 	}
 }
