@@ -68,5 +68,6 @@ func built() []layer {
 		{"pct", "closure three-index method-value"},
 		{"shrink", "label closure method-value"},
 		{"dump", "method-value embedding promoted array variadic iota"},
+		{"chart", "array range-function closure"},
 	}
 }
