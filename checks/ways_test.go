@@ -69,5 +69,6 @@ func built() []layer {
 		{"shrink", "label closure method-value"},
 		{"dump", "method-value embedding promoted array variadic iota"},
 		{"chart", "array range-function closure"},
+		{"stress", "range-function map closure"},
 	}
 }
