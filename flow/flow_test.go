@@ -43,6 +43,8 @@ func TestReach(t *testing.T) { // P801
 	f := fun([]api.Instr{op(api.OpJump, 2), op(api.OpNop, 0), op(api.OpIf, 4), op(api.OpExit, 0), op(api.OpExit, 0), op(api.OpJump, 1)})
 	is(t, "Reach", "[true false true true true false]", Reach(f))
 	is(t, "none", "[]", Reach(api.Func{}))
+	most := fun(make([]api.Instr, 64))
+	is(t, "most", "true true", Reach(most)[0], Reach(most)[63])
 }
 
 func TestGap(t *testing.T) { // P802
@@ -68,6 +70,11 @@ func TestLongestBound(t *testing.T) { // P802
 	n, ok = Longest(p)
 	b, also = Bound(p)
 	is(t, "none", "0 false 0 false", n, ok, b, also)
+	most := api.Program{Funcs: make([]api.Func, 16)}
+	most.Funcs[15] = fun([]api.Instr{{}, {}, op(api.OpExit, 0)})
+	n, ok = Longest(most)
+	b, also = Bound(most)
+	is(t, "most functions", "2 true 51 true", n, ok, b, also)
 	n, ok = Longest(api.Program{})
 	b, also = Bound(api.Program{})
 	is(t, "no function", "0 true 17 true", n, ok, b, also)
@@ -75,12 +82,15 @@ func TestLongestBound(t *testing.T) { // P802
 
 func TestCallsUsed(t *testing.T) { // P803
 	p := api.Program{Funcs: []api.Func{
-		fun([]api.Instr{op(api.OpSpawn, 3), op(api.OpCall, 1), op(api.OpCall, 3), op(api.OpJump, 2), op(api.OpCall, 9), op(api.OpCall, -1)}),
+		fun([]api.Instr{op(api.OpSpawn, 3), op(api.OpCall, 1), op(api.OpCall, 3), op(api.OpJump, 2), op(api.OpCall, 9), op(api.OpCall, 5), op(api.OpCall, -1)}),
 		fun([]api.Instr{op(api.OpCall, 1)}), fun([]api.Instr{op(api.OpCall, 4)}), fun([]api.Instr{op(api.OpCall, 0)}), {},
 	}}
 	is(t, "Calls", "[1 3] [1] [4] [0] [] [] []", Calls(p, 0), Calls(p, 1), Calls(p, 2), Calls(p, 3), Calls(p, 4), Calls(p, 5), Calls(p, -1))
 	is(t, "Used", "[true true false true false]", Used(p))
 	is(t, "none", "[]", Used(api.Program{}))
+	most := api.Program{Funcs: make([]api.Func, 16)}
+	most.Funcs[0] = fun([]api.Instr{op(api.OpCall, 15)})
+	is(t, "most", "true false true", Used(most)[0], Used(most)[1], Used(most)[15])
 }
 
 func TestGreat(t *testing.T) { // of greater ones an end

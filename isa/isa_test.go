@@ -68,6 +68,8 @@ func TestCheck(t *testing.T) { // P603
 	}{
 		{api.Instr{Op: api.OpJump, N: 3}, api.Range},
 		{api.Instr{Op: api.OpJump, N: 2}, api.OK},
+		{api.Instr{Op: api.OpJump}, api.OK},
+		{api.Instr{Op: api.OpCall}, api.OK},
 		{api.Instr{Op: api.OpJump, N: -1}, api.Range},
 		{api.Instr{Op: api.OpJump, A: 1, N: 3}, api.Bad},
 		{api.Instr{Op: api.OpJump, N: math.MaxInt64}, api.Range},

@@ -51,6 +51,7 @@ func TestCoprimes(t *testing.T) { // P102
 
 func TestWalk(t *testing.T) { // P103
 	is(t, "example", slices.Collect(Walk(4, 6, 3)), []int{2, 1, 0, 3})
+	is(t, "one place", slices.Collect(Walk(1, 7, 1)), []int{0})
 	is(t, "below 0", slices.Collect(Walk(3, -1, 1)), []int{2, 0, 1})
 	is(t, "step above n", slices.Collect(Walk(3, 0, 1024)), []int{0, 1, 2})
 	is(t, "divisor", slices.Collect(Walk(4, 1, 2)), []int{1, 3, 1, 3})

@@ -104,4 +104,6 @@ func TestStops(t *testing.T) { // P904
 	is(t, "no place, though safe", "false false", Stops(f, 3), Stops(f, math.MinInt))
 	f.Safe = nil
 	is(t, "fewer truths", "true false", Stops(f, 0), Stops(f, 1))
+	f.Safe = []bool{true}
+	is(t, "one fewer", "true false", Stops(f, 0), Stops(f, 1))
 }

@@ -124,6 +124,8 @@ func TestStepPlaces(t *testing.T) { // P1103
 	is(t, "call", "1 0 "+zero+" [{0 3}] false 0 true", step(p, api.Thread{PC: 2}, 1))
 	u, _, _ := Step(p, api.Thread{Func: 1, Stack: []api.Frame{{PC: 2}, {PC: 3}}}, 1)
 	is(t, "ret", "{0 3 "+zero+" [{0 2}] false}", u)
+	u, _, _ = Step(p, api.Thread{Func: 1, Stack: []api.Frame{{PC: 2}}}, 1)
+	is(t, "ret to the only one", "{0 2 "+zero+" [] false}", u)
 	done := "0 0 " + zero + " [] true 0 "
 	is(t, "the last ret", done+"true", step(p, api.Thread{Func: 1, Regs: [8]int64{5}}, 1))
 	is(t, "exit", done+"true", step(p, api.Thread{PC: 3, Regs: [8]int64{5}, Stack: []api.Frame{{}}}, 1))
@@ -132,8 +134,8 @@ func TestStepPlaces(t *testing.T) { // P1103
 	full := api.Thread{PC: 2, Stack: make([]api.Frame, 15, 40)}
 	is(t, "the last frame", "16", fmt.Sprint(len(mustStep(p, full).Stack)))
 	full.Stack = full.Stack[:16]
+	is(t, "its room stays", "{0 0}", full.Stack[15])
 	is(t, "one more", done+"true", step(p, full, 1))
-	is(t, "its room stays", "{0 0}", full.Stack[:17][16])
 }
 
 func mustStep(p api.Program, t api.Thread) api.Thread {
