@@ -82,7 +82,7 @@ func TestPlaces(t *testing.T) { // P3201
 		g      int
 		change func(s *api.Snap)
 	}{
-		{1, func(s *api.Snap) { s.Status[0] = api.GIdle }}, {1, func(s *api.Snap) { s.Status[0] = 10 }}, {5, func(s *api.Snap) { s.Status[4] = -1 }}, {1, func(s *api.Snap) { s.MG[3] = 0 }}, {1, func(s *api.Snap) { s.MG[1] = 1 }}, {1, func(s *api.Snap) { s.Global = append(s.Global, 1) }},
+		{1, func(s *api.Snap) { s.Status[0] = api.GIdle }}, {1, func(s *api.Snap) { s.Status[0] = 10 }}, {5, func(s *api.Snap) { s.Status[4] = api.GIdle }}, {5, func(s *api.Snap) { s.Status[4] = -1 }}, {1, func(s *api.Snap) { s.MG[3] = 0 }}, {1, func(s *api.Snap) { s.MG[1] = 1 }}, {1, func(s *api.Snap) { s.Global = append(s.Global, 1) }},
 		{2, func(s *api.Snap) { s.MG[0] = 0 }}, {3, func(s *api.Snap) { s.Queues[0] = nil }}, {3, func(s *api.Snap) { s.Queues[2] = []int{3} }}, {4, func(s *api.Snap) { s.Queues[1] = []int{4} }}, {3, func(s *api.Snap) { s.MG[1] = 3 }},
 		{5, func(s *api.Snap) { s.MG[1] = 5 }}, {5, func(s *api.Snap) { s.Global = []int{5, 4} }}, {6, func(s *api.Snap) { s.Global = []int{6, 4} }}, {7, func(s *api.Snap) { s.Threads[6].Done = false }}, {7, func(s *api.Snap) { s.MG[1] = 7 }}, {3, func(s *api.Snap) { s.Threads[2].Done = true }},
 	} {
@@ -101,7 +101,7 @@ func TestProcs(t *testing.T) { // P3202
 	}{
 		{0, func(s *api.Snap) { s.PM[0] = 2 }}, {0, func(s *api.Snap) { s.MP[3] = -1 }}, {0, func(s *api.Snap) { s.MP[1] = 0 }}, {1, func(s *api.Snap) { s.MP[0] = -1 }}, {1, func(s *api.Snap) { s.PM[1] = 1 }},
 		{2, func(s *api.Snap) { s.MP[2] = 2 }}, {2, func(s *api.Snap) { s.Queues[2] = []int{9} }}, {2, func(s *api.Snap) { s.PStatus[2] = api.PDead }}, {2, func(s *api.Snap) { s.PStatus[2] = 5 }}, {2, func(s *api.Snap) { s.PStatus[2] = -1 }},
-		{2, func(s *api.Snap) { s.PStatus[2] = api.PStopped; s.MP[1], s.MP[2] = 2, 2 }}, {4, func(s *api.Snap) { s.MP[1] = 3 }}, {4, func(s *api.Snap) { s.MP[1] = -2 }}, {5, func(s *api.Snap) { s.MG[2] = 9 }}, {5, func(s *api.Snap) { s.PStatus[2] = api.PStopped; s.MP[2] = 2 }},
+		{2, func(s *api.Snap) { s.PStatus[2] = api.PStopped; s.MP[1], s.MP[2] = 2, 2 }}, {4, func(s *api.Snap) { s.MP[1] = 3 }}, {4, func(s *api.Snap) { s.MP[1] = -2 }}, {4, func(s *api.Snap) { s.MP[1], s.Parked[1] = 3, false }}, {4, func(s *api.Snap) { s.MP[1], s.Parked[1] = -2, false }}, {5, func(s *api.Snap) { s.MG[2] = 9 }}, {5, func(s *api.Snap) { s.PStatus[2] = api.PStopped; s.MP[2] = 2 }},
 	} {
 		s := with(good(), c.change)
 		is(t, fmt.Sprint("procs ", i), fmt.Sprintf("%d false", c.n), two(Procs(s)))
@@ -146,6 +146,7 @@ func TestAllWhere(t *testing.T) { // P3205
 	s.Queues[2], s.Global, s.MG[1] = []int{5, 3}, []int{6, 99}, 2
 	is(t, "the first one", "run 0 queue 0 queue 2 global global", Where(s, 2), Where(s, 3), Where(s, 5), Where(s, 6), Where(s, 99))
 	is(t, "no place by its status", "none", Where(with(good(), func(s *api.Snap) { s.Queues[0] = nil }), 3))
+	is(t, "the first goroutine", "waits", Where(with(good(), func(s *api.Snap) { s.MG[3], s.Status[0] = 0, api.GWaiting }), 1))
 	is(t, "no words", "none none", Where(api.Snap{}, 0), Where(api.Snap{}, math.MinInt))
 }
 

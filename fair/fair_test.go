@@ -113,6 +113,8 @@ func TestBounds(t *testing.T) { // P3103
 	n, ok = Move(p, 2, 3, 4)
 	m, also = Move(p, 1000, 1000, 1000)
 	is(t, "Move", "388 true 9166000 true", n, ok, m, also)
+	n, ok = Move(p, 1, 0, 0)
+	is(t, "of none", "166 true", n, ok)
 	for _, k := range []int{0, -1, 1001, math.MinInt, math.MaxInt} {
 		n, ok := Stop(p, k)
 		m, also := Move(p, k, 1, 1)

@@ -20,7 +20,7 @@ func TestNew(t *testing.T) { // P2001
 	for _, n := range []int{-1, 1025, math.MaxInt, math.MinInt} {
 		is(t, fmt.Sprint("New ", n), "true", New(n) == nil)
 	}
-	is(t, "of none", "0 [] false", New(0).Len(), New(0).All(), New(0).Put(0))
+	is(t, "of none", "false 0 [] false", New(0) == nil, New(0).Len(), New(0).All(), New(0).Put(0))
 	l := New(1024)
 	is(t, "nobody", "0 [] false", l.Len(), l.All(), l.Has(0))
 	is(t, "edges", "true true false false", l.Put(0), l.Put(1023), l.Put(1024), l.Put(-1))

@@ -136,12 +136,13 @@ func TestBlockReady(t *testing.T) { // P2702
 }
 
 func TestSpawnResizeSelf(t *testing.T) { // P2702
-	m := of(t, 2, "func", "const r3 7", "spawn r3 1", "spawn r4 1", "resize r5", "stop", "resize r5", "const r5 256", "resize r5", "const r5 257", "resize r5", "exit", "func", "self r1", "emit r0", "exit")
+	m := of(t, 2, "func", "const r3 7", "spawn r3 1", "spawn r4 1", "resize r5", "stop", "resize r5", "const r5 256", "resize r5", "const r5 257", "resize r5", "const r5 1", "resize r5", "exit", "func", "self r1", "emit r0", "exit")
 	is(t, "spawn", "+-+-+ 2", play(t, m, "c1:0 c1:-1 c1:2 c1:3 c1:-1"), m.Count())
 	th, ok := m.Thread(2)
 	is(t, "with the register", "{1 0 [7 0 0 0 0 0 0 0] [] false} true", th, ok)
 	is(t, "self, emit", "-+-+", play(t, m, "c2:1 c2:2 c2:2 c2:7"))
-	is(t, "resize", "-+++-++-+++", play(t, m, "c1:1 c1:0 b1 c1:0 c1:1 c1:0 c1:0 c1:0 c1:1 c1:0 c1:0"))
+	is(t, "not of the world that goes on", "-+", play(t, m, "c1:1 c1:0"))
+	is(t, "resize", "+ + -+ + -+ + -+ + -+ +", play(t, m, "b1"), play(t, m, "c1:0"), play(t, m, "c1:1 c1:0"), play(t, m, "c1:0"), play(t, m, "c1:0 c1:1"), play(t, m, "c1:0"), play(t, m, "c1:1 c1:0"), play(t, m, "c1:0"), play(t, m, "c1:0 c1:1"), play(t, m, "c1:0"))
 }
 
 func TestDo(t *testing.T) { // P2702

@@ -28,7 +28,7 @@ func TestNew(t *testing.T) { // P2301
 	}
 	p := New(2)
 	is(t, "two", "2 256 [[] []] true true", p.Len(), p.Ring(1).Size(), p.Queues(), p.Ring(2) == nil, p.Ring(-1) == nil)
-	is(t, "most", "256", New(256).Len())
+	is(t, "least, most", "1 256", New(1).Len(), New(256).Len())
 	p.Ring(1).Put(5, false)
 	is(t, "itself", "[5] true", p.Ring(1).List(), p.Ring(1) == p.Ring(1))
 }

@@ -62,7 +62,7 @@ func TestAnswer(t *testing.T) { // P2603
 }
 
 func TestLog(t *testing.T) { // P2604
-	is(t, "none", "true true true false", New(-1) == nil, New(65) == nil, New(math.MaxInt) == nil, New(0) == nil)
+	is(t, "none", "true true true false false", New(-1) == nil, New(65) == nil, New(math.MaxInt) == nil, New(0) == nil, New(64) == nil)
 	l := New(3)
 	is(t, "at first", "[] false false", l.All(), l.Has(1), l.Resume(1))
 	is(t, "Suspend", "true true false false false false [1 3]", l.Suspend(3), l.Suspend(1), l.Suspend(3), l.Suspend(0), l.Suspend(4), l.Suspend(-1), l.All())

@@ -85,7 +85,8 @@ func TestAll(t *testing.T) { // P1502
 
 func TestFair(t *testing.T) { // P1503
 	is(t, "none", "200 800 2200", Fair(nil, 0, 0), Fair(make([]Job, 3), 0, 9), Fair(make([]Job, 2), 4, 2))
-	is(t, "no sum that leaves its range", "0 0 0", Fair(nil, math.MaxInt, math.MaxInt), Fair(nil, 1, math.MaxInt), Fair(nil, -1, 1))
+	is(t, "no sum that leaves its range", "0 0", Fair(nil, math.MaxInt, math.MaxInt), Fair(nil, 1, math.MaxInt))
+	is(t, "below 0", "0 0 0", Fair(make([]Job, 5), -1, 1), Fair(make([]Job, 5), 1, -1), Fair(nil, math.MinInt, math.MinInt))
 	for _, size := range []int{2, 8, 64} {
 		owner := make([]Job, 60)
 		for i := range owner {
