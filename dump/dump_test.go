@@ -73,6 +73,13 @@ func TestRightPrint(t *testing.T) { // P4201
 	is(t, "most", "0 0 0 true", int(f), n, int(g), Same(most, back))
 }
 
+func TestDeadProcessor(t *testing.T) { // P4201, P4202
+	dead := with(func(s *api.Snap) { s.PStatus[1] = api.PDead })
+	text, f := Print(dead)
+	back, n, g := Parse(text)
+	is(t, "there and back", "0 0 0 true", int(f), n, int(g), Same(dead, back))
+}
+
 func TestSame(t *testing.T) { // P4201
 	is(t, "alike", "true true", Same(good(), good()), Same(api.Snap{}, api.Snap{Global: []int{}, Queues: [][]int{}}))
 	is(t, "nil or empty", "true", Same(good(), with(func(s *api.Snap) { s.Queues[1] = []int{} })))

@@ -36,9 +36,16 @@ func TestDice(t *testing.T) { // P3301
 	a, b := New(9), New(9)
 	is(t, "Below", fmt.Sprint(a.Next()%7, " ", a.Next()%1000), b.Below(7), b.Below(1000))
 	is(t, "no Next", fmt.Sprint("0 0 0 ", a.Next()), b.Below(0), b.Below(-1), b.Below(math.MinInt), b.Next())
+	is(t, "of one, a Next", fmt.Sprint("0 ", second(a)), b.Below(1), b.Next())
 	is(t, "greatest", fmt.Sprint(a.Next()), b.Below(math.MaxInt))
 	var none *Dice
 	is(t, "nil", "0 0", none.Next(), none.Below(5))
+}
+
+// second: what is thrown behind one more.
+func second(d *Dice) uint64 {
+	d.Next()
+	return d.Next()
 }
 
 // random: as the chapter's words say, place by place.

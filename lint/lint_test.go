@@ -47,6 +47,7 @@ func TestCheck(t *testing.T) { // P3801
 	is(t, "Deep", "deep 0 -1;deep 1 -1;0", text(t, "func;call 1;exit;func;spawn r0 2;call 1;ret;func;ret"))
 	is(t, "not by a spawn, nor where it is not reached", "unreached 0 2;unreached 0 3;0", text(t, "func;spawn r0 0;exit;call 0;exit"))
 	is(t, "by a longer way", "deep 0 -1;deep 1 -1;0", text(t, "func;call 1;exit;func;call 0;ret"))
+	is(t, "of one that has none", "deep 0 -1;unused 1 -1;deep 1 -1;0", text(t, "func;call 0;exit;func;call 0;ret"))
 	is(t, "Dead", "dead 0 1;0", text(t, "func;const r1 1;add r1 r1 r1;const r1 2;const r2 3;exit"))
 	is(t, "Dead ops", "dead 0 0;dead 0 2;dead 0 4;dead 0 6;0", text(t, "func;sub r0 r1 r2;const r0 1;mul r3 r1 r2;const r3 1;less r4 r1 r2;const r4 1;add r5 r0 r0;const r5 1;exit"))
 	is(t, "not Dead", "0", text(t, "func;self r1;const r1 1;if r1 0;const r1 2;emit r1;const r1 5;add r1 r1 r1;exit"))

@@ -89,6 +89,9 @@ func TestCut(t *testing.T) { // P4102, P4104
 	held, _ := gen.Rounds(1)
 	held.Funcs[0].Code[2] = api.Instr{Op: api.OpJump, N: 2}
 	cut, f = Cut(held, conf, script.Robin(200, 0))
+	again, _ := Cut(held, conf, cut)
+	again[0].Draw = 12345
+	is(t, "new memory", "false", cut[0] == again[0])
 	is(t, "most", "0 1 true", int(f), Holds(held, conf, cut), len(cut) < 60)
 }
 

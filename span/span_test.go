@@ -54,6 +54,7 @@ func TestWorst(t *testing.T) { // P3602
 	is(t, "none", "{0 0 0 0} false {0 0 0 0} false", worst(), worst(Span{1, 2, 3, -1}))
 	is(t, "the first of the longest", "{2 0 4 9} true", worst(Span{1, 0, 0, 3}, Span{2, 0, 4, 9}, Span{3, 0, 5, 10}, Span{4, 0, 0, -1}))
 	is(t, "to the end ahead of the beginning", "{0 0 5 4} true {0 0 5 5} true", worst(Span{0, 0, 9, 3}, Span{0, 0, 5, 4}, Span{0, 0, 9, 7}), worst(Span{0, 0, 9, 3}, Span{0, 0, 5, 5}))
+	is(t, "the first of the least far back", "{1 0 5 3} true", worst(Span{0, 0, 9, 3}, Span{1, 0, 5, 3}, Span{2, 0, 9, 7}))
 	is(t, "the whole range", "{2 0 -9223372036854775808 9223372036854775807} true", worst(Span{1, 0, math.MaxInt, math.MinInt}, Span{2, 0, math.MinInt, math.MaxInt}, Span{3, 0, 0, math.MaxInt}))
 	is(t, "and back", "{3 0 0 -5} true", worst(Span{1, 0, math.MaxInt, math.MinInt}, Span{2, 0, math.MaxInt, 0}, Span{3, 0, 0, -5}))
 }

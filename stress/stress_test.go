@@ -64,6 +64,7 @@ func TestOne(t *testing.T) { // P4401
 func TestRun(t *testing.T) { // P4402
 	plan := pct.Plan{Seed: math.MaxUint64, Steps: 100, Every: 2}
 	is(t, "example", "{7 7 0 7 0 -1} 0 1 0", both(exit, conf, plan, 7))
+	is(t, "one run", "{1 1 0 1 0 -1} 0 1 0", both(exit, conf, plan, 1))
 	for _, runs := range []int{0, -1, 101, math.MaxInt, math.MinInt} {
 		is(t, fmt.Sprint("runs ", runs), "{0 0 0 0 0 0} 2 0 2", both(exit, conf, plan, runs))
 	}
@@ -94,6 +95,11 @@ func TestRun(t *testing.T) { // P4402
 	if want.Held == 0 || want.Held == 30 {
 		t.Error("the test says little", want)
 	}
+}
+
+func TestWrong(t *testing.T) { // P4402
+	good := []api.Event{{Kind: api.EvCommit, G: 1}}
+	is(t, "wrong", "false true true true", ended{nil, good, ""}.wrong(exit, conf), ended{nil, good, "places"}.wrong(exit, conf), ended{nil, append(good, good...), ""}.wrong(exit, conf), ended{nil, append(good, good...), "procs"}.wrong(exit, conf))
 }
 
 func TestUnlike(t *testing.T) { // P4403

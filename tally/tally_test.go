@@ -15,7 +15,7 @@ func is(t *testing.T, what string, want string, got ...any) {
 	}
 }
 
-var p = api.Program{Funcs: []api.Func{{Code: []api.Instr{{Op: api.OpEmit}, {Op: api.OpNop}, {Op: 77}, {Op: -3}, {Op: api.OpSelf}}}}}
+var p = api.Program{Funcs: []api.Func{{Code: []api.Instr{{Op: api.OpEmit}, {Op: api.OpNop}, {Op: 77}, {Op: -3}, {Op: api.OpSelf}, {Op: 24}}}}}
 
 // events: each of a kind, a goroutine, and a place.
 func events(l ...[3]int) []api.Event {
@@ -39,7 +39,7 @@ func TestRows(t *testing.T) { // P3401
 }
 
 func TestOpsSumSwitchesMost(t *testing.T) { // P3402
-	l := events([3]int{2, 1, 0}, [3]int{2, 1, 1}, [3]int{2, 2, 2}, [3]int{2, 2, 3}, [3]int{2, 2, 4}, [3]int{1, 2, 0}, [3]int{2, 1, 9}, [3]int{2, 3, 1})
+	l := events([3]int{2, 1, 0}, [3]int{2, 1, 1}, [3]int{2, 2, 2}, [3]int{2, 2, 3}, [3]int{2, 2, 4}, [3]int{1, 2, 0}, [3]int{2, 1, 5}, [3]int{2, 3, 1})
 	is(t, "each op", "24 1 2 1", len(Ops(p, l)), Ops(p, l)[api.OpEmit], Ops(p, l)[api.OpNop], Ops(p, l)[api.OpSelf])
 	is(t, "Sum", "7 2 1 0 0 7 1", Sum(l, 0, 8), Sum(l, 0, 2), Sum(l, 4, 6), Sum(l, 5, 6), Sum(l, 6, 2), Sum(l, math.MinInt, math.MaxInt), Sum(l, 7, 9))
 	is(t, "Switches", "3 0 0", Switches(l), Switches(l[:2]), Switches(nil))
