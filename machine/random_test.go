@@ -227,7 +227,7 @@ func (a *auditor) resized(e api.Event, s api.Snap) {
 		a.fail("resize", n)
 	}
 	for p := range n {
-		if s.PStatus[p] != api.PStopped || p < len(b.Queues) && !slices.Equal(s.Queues[p], b.Queues[p]) || p >= len(b.Queues) && len(s.Queues[p]) > 0 {
+		if p < len(b.Counts) && s.Counts[p] != b.Counts[p] || s.PStatus[p] != api.PStopped || p < len(b.Queues) && !slices.Equal(s.Queues[p], b.Queues[p]) || p >= len(b.Queues) && len(s.Queues[p]) > 0 {
 			a.fail("resize, processor", p)
 		}
 	}
@@ -317,7 +317,38 @@ func (a *auditor) left(s api.Snap) {
 		if w == api.GPreempted && !wanted[g+1] {
 			a.fail("taken off for nobody", g+1)
 		}
+		if a.model.Blocked(g+1) != (gstat.Base(w) == api.GWaiting && !a.turns(s, g)) && !a.model.Suspended(g+1) {
+			a.fail("blocked?", g+1, w)
+		}
+		if a.model.Blocked(g+1) && gstat.Base(w) != api.GWaiting {
+			a.fail("blocked, and does not wait", g+1, w)
+		}
 	}
+}
+
+// turns: does a goroutine wait for its turn at the world, or for a resume, as it may?
+func (a *auditor) turns(s api.Snap, g int) bool {
+	th := s.Threads[g]
+	switch a.p.Funcs[th.Func].Code[th.PC].Op {
+	case api.OpSuspend:
+		return a.model.Begun(g+1) && !a.model.Can(g+1)
+	case api.OpStop, api.OpBarrier:
+		return !a.model.Blocked(g+1) && (a.model.Owner() != 0 || a.granted(s))
+	}
+	return false
+}
+
+// granted: is there somebody whose turn has come, and who has not begun yet?
+func (a *auditor) granted(s api.Snap) bool {
+	for g, th := range s.Threads {
+		if th.Done || a.model.Suspended(g+1) || s.Status[g] == api.GWaiting {
+			continue
+		}
+		if op := a.p.Funcs[th.Func].Code[th.PC].Op; op == api.OpStop || op == api.OpBarrier {
+			return true
+		}
+	}
+	return false
 }
 
 func (a *auditor) stopped(s api.Snap) {
