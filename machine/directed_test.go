@@ -86,9 +86,16 @@ func TestDelay(t *testing.T) { // P2802: how long a signal is under way
 	if many < 18 || many > 24 {
 		t.Error("it goes on for", many)
 	}
-	round, _ := trace(20 + 65)
-	if round != long || short == long {
-		t.Error("a delay does not go round")
+	if short == long {
+		t.Error("a delay changes nothing")
+	}
+	for delay := 18; delay < 24; delay++ {
+		once, _ := trace(delay)
+		round, _ := trace(delay + 65)
+		back, _ := trace(delay - 65)
+		if round != once || back != once {
+			t.Error("a delay does not go round", delay)
+		}
 	}
 }
 
@@ -145,4 +152,32 @@ func TestOrder(t *testing.T) { // P4: those that wait go in their order
 		}
 	}
 	is(t, "at the end", "[6 4 4 13 4 4]", m.Snap().Status)
+}
+
+func TestSys(t *testing.T) { // P2804, P2805: who is in sys has a processor with him, till the world is stopped
+	m := of(t, conf(2, 2, 2), "func", "spawn r1 1", "const r5 9", "const r6 1", "sub r5 r5 r6", "if r5 3", "stop", "jump 6", "func", "const r0 3", "* sys r0", "emit r0", "jump 1")
+	with, without := 0, 0
+	for i := range 300 {
+		pick := i
+		if m.Snap().Holder == 0 && m.Live() > 1 && m.Snap().Status[1] == api.GSyscall {
+			pick = 0 // it stays where it is while the world is stopped
+		}
+		m.Step(api.Entry{Pick: pick})
+		s := m.Snap()
+		if len(s.Status) < 2 || s.Status[1] != api.GSyscall {
+			continue
+		}
+		at := slices.Index(s.MG, 2)
+		if s.MP[at] >= 0 {
+			is(t, "in sys", "2", s.PStatus[s.MP[at]])
+			with++
+		} else {
+			is(t, "its processor was stopped", "3 -1", s.PStatus[1], s.PM[1])
+			without++
+		}
+	}
+	if with == 0 || without == 0 {
+		t.Error("it was not seen in sys", with, without)
+	}
+	is(t, "at the end it waits", "1 [2 1] [2]", m.Snap().Holder, m.Snap().Status, m.Snap().Global)
 }
