@@ -1,10 +1,11 @@
-package alone
+package alone_test
 
 import (
 	"fmt"
 	"slices"
 	"testing"
 
+	. "escapement/alone"
 	"escapement/api"
 	"escapement/asm"
 )

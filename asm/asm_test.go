@@ -1,4 +1,4 @@
-package asm
+package asm_test
 
 import (
 	"fmt"
@@ -6,7 +6,9 @@ import (
 	"testing"
 
 	"escapement/api"
+	. "escapement/asm"
 	"escapement/code"
+	"escapement/isa"
 )
 
 func is(t *testing.T, what string, want string, got ...any) {
@@ -101,7 +103,7 @@ func TestLaw(t *testing.T) { // P1004
 						*regs[k] = 0
 					}
 				}
-				if i.N = int64(below(1<<30)) - 1<<29; !hasN(i.Op) {
+				if i.N = int64(below(1<<30)) - 1<<29; isa.Target(i.Op) == isa.NoTarget && !isa.Number(i.Op) {
 					i.N = 0
 				}
 				f.Code, f.Safe = append(f.Code, i), append(f.Safe, below(2) == 0)

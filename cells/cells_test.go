@@ -1,4 +1,4 @@
-package cells
+package cells_test
 
 import (
 	"fmt"
@@ -6,6 +6,7 @@ import (
 	"testing"
 
 	"escapement/api"
+	. "escapement/cells"
 )
 
 func is(t *testing.T, what string, got, want any) {
@@ -85,8 +86,6 @@ func TestNil(t *testing.T) { // P201, P202
 	var c *Cells
 	c.Store(0, 1)
 	is(t, "nil", fmt.Sprint(c.Len(), c.Load(0), c.Cas(0, 0, 0), c.Add(0, 1), c.Swap(0, 1), c.Mask(0, 1, 1), c.Count(), c.Copy() == nil), "0 0 false 0 0 0 0 true")
-	var z Cells
-	is(t, "zero", fmt.Sprint(z.Len(), z.Load(0), z.Count()), "0 0 0")
 }
 
 func TestLaw(t *testing.T) { // P203

@@ -1,4 +1,4 @@
-package chart
+package chart_test
 
 import (
 	"fmt"
@@ -7,6 +7,7 @@ import (
 	"testing"
 
 	"escapement/api"
+	. "escapement/chart"
 	"escapement/gen"
 	"escapement/machine"
 	"escapement/script"

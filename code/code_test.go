@@ -1,4 +1,4 @@
-package code
+package code_test
 
 import (
 	"bytes"
@@ -7,6 +7,8 @@ import (
 	"testing"
 
 	"escapement/api"
+	. "escapement/code"
+	"escapement/isa"
 )
 
 func is(t *testing.T, what string, want string, got ...any) {
@@ -107,7 +109,7 @@ func TestLaw(t *testing.T) { // P704
 		for _, f := range p.Funcs {
 			for pc := range f.Code {
 				i := api.Instr{Op: below(24), A: below(256), B: below(256), C: below(256)}
-				if hasN(i.Op) {
+				if isa.Target(i.Op) != isa.NoTarget || isa.Number(i.Op) {
 					i.N = int64(below(1<<30)) << below(40) * int64(1-2*below(2))
 				}
 				f.Code[pc], f.Safe[pc] = i, below(2) == 1

@@ -1,4 +1,4 @@
-package console
+package console_test
 
 import (
 	"fmt"
@@ -6,6 +6,7 @@ import (
 	"testing"
 
 	"escapement/asm"
+	. "escapement/console"
 	"escapement/gen"
 	"escapement/script"
 )

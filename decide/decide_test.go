@@ -1,4 +1,4 @@
-package decide
+package decide_test
 
 import (
 	"fmt"
@@ -6,6 +6,7 @@ import (
 	"testing"
 
 	"escapement/api"
+	. "escapement/decide"
 )
 
 func is(t *testing.T, what string, want string, got ...any) {

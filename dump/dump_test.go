@@ -1,4 +1,4 @@
-package dump
+package dump_test
 
 import (
 	"fmt"
@@ -7,6 +7,7 @@ import (
 	"testing"
 
 	"escapement/api"
+	. "escapement/dump"
 	"escapement/gen"
 	"escapement/machine"
 	"escapement/script"

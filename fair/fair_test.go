@@ -1,4 +1,4 @@
-package fair
+package fair_test
 
 import (
 	"fmt"
@@ -8,6 +8,7 @@ import (
 
 	"escapement/api"
 	"escapement/asm"
+	. "escapement/fair"
 	"escapement/machine"
 	"escapement/script"
 	"escapement/valid"
@@ -71,7 +72,6 @@ func TestWatch(t *testing.T) { // P3101
 	is(t, "as it was", "[false false]", p)
 	var none *Watch
 	is(t, "nil", "false false 0", none.Step(parked("."), api.Entry{}), none.Fair(), none.Worst())
-	(&Watch{}).Step(parked("."), api.Entry{})
 }
 
 func worst(k, delay int) int {
@@ -139,7 +139,11 @@ func TestLaw(t *testing.T) { // P3104
 		return int(seed >> 33 % uint64(n))
 	}
 	for range 200 {
-		watches := []*Watch{New(1), New(4), New(9), New(30), New(1000)}
+		ks := []int{1, 4, 9, 30, 1000}
+		var watches []*Watch
+		for _, k := range ks {
+			watches = append(watches, New(k))
+		}
 		for range below(40) {
 			l := make([]bool, 1+below(4))
 			for i := range l {
@@ -147,9 +151,9 @@ func TestLaw(t *testing.T) { // P3104
 			}
 			e := api.Entry{Pick: below(9), Delay: below(6)}
 			was := false
-			for _, w := range watches {
+			for i, w := range watches {
 				fair := w.Step(l, e)
-				if was && !fair || fair != (w.Worst() <= w.k) {
+				if was && !fair || fair != (w.Worst() <= ks[i]) {
 					t.Fatal("fair for less, not for more")
 				}
 				was = fair

@@ -1,4 +1,4 @@
-package flow
+package flow_test
 
 import (
 	"fmt"
@@ -6,6 +6,7 @@ import (
 	"testing"
 
 	"escapement/api"
+	. "escapement/flow"
 )
 
 func is(t *testing.T, what string, want string, got ...any) {
@@ -105,6 +106,9 @@ func TestGreat(t *testing.T) { // of greater ones an end
 	Used(p)
 	Calls(p, 0)
 }
+
+// open: no thread may be stopped there.
+func open(f api.Func, pc int) bool { return pc != 0 && (pc >= len(f.Safe) || !f.Safe[pc]) }
 
 func TestLaw(t *testing.T) { // P804
 	seed := uint64(5)

@@ -1,4 +1,4 @@
-package gen
+package gen_test
 
 import (
 	"fmt"
@@ -8,6 +8,7 @@ import (
 	"escapement/api"
 	"escapement/asm"
 	"escapement/code"
+	. "escapement/gen"
 	"escapement/isa"
 	"escapement/valid"
 )

@@ -1,9 +1,11 @@
-package glob
+package glob_test
 
 import (
 	"fmt"
 	"math"
 	"testing"
+
+	. "escapement/glob"
 )
 
 func is(t *testing.T, what string, want string, got ...any) {

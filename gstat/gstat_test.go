@@ -1,4 +1,4 @@
-package gstat
+package gstat_test
 
 import (
 	"fmt"
@@ -6,6 +6,7 @@ import (
 	"testing"
 
 	"escapement/api"
+	. "escapement/gstat"
 )
 
 func is(t *testing.T, what string, want string, got ...any) {

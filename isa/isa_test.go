@@ -1,4 +1,4 @@
-package isa
+package isa_test
 
 import (
 	"fmt"
@@ -7,6 +7,7 @@ import (
 	"testing"
 
 	"escapement/api"
+	. "escapement/isa"
 )
 
 func is(t *testing.T, what string, got, want any) {

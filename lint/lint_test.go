@@ -1,4 +1,4 @@
-package lint
+package lint_test
 
 import (
 	"fmt"
@@ -10,6 +10,7 @@ import (
 	"escapement/asm"
 	"escapement/flow"
 	"escapement/gen"
+	. "escapement/lint"
 	"escapement/machine"
 	"escapement/script"
 	"escapement/valid"

@@ -1,4 +1,4 @@
-package machine
+package machine_test
 
 import (
 	"fmt"
@@ -10,6 +10,7 @@ import (
 	"escapement/alone"
 	"escapement/api"
 	"escapement/asm"
+	. "escapement/machine"
 	"escapement/model"
 	"escapement/valid"
 )
@@ -83,11 +84,10 @@ func TestNew(t *testing.T) { // P2801
 }
 
 func TestNil(t *testing.T) { // P2801, P2802
-	for _, m := range []*Machine{nil, {}} {
-		e, ok := m.Step(api.Entry{})
-		is(t, "nil", "{0 0 0 0 0} false [] 0 0 true", e, ok, m.Run(robin(3, 0)), m.Live(), m.Steps(), m.Quiet())
-		is(t, "its snap", "{0 [] [] [] [] [] [] [] [] [] []}", m.Snap())
-	}
+	var m *Machine
+	e, ok := m.Step(api.Entry{})
+	is(t, "nil", "{0 0 0 0 0} false [] 0 0 true", e, ok, m.Run(robin(3, 0)), m.Live(), m.Steps(), m.Quiet())
+	is(t, "its snap", "{0 [] [] [] [] [] [] [] [] [] []}", m.Snap())
 }
 
 func TestRun(t *testing.T) { // P2802

@@ -1,4 +1,4 @@
-package machine
+package machine_test
 
 import (
 	"fmt"
@@ -10,6 +10,7 @@ import (
 	"escapement/asm"
 	"escapement/flow"
 	"escapement/gstat"
+	. "escapement/machine"
 	"escapement/model"
 	"escapement/valid"
 	"escapement/vm"

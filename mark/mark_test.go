@@ -1,4 +1,4 @@
-package mark
+package mark_test
 
 import (
 	"fmt"
@@ -9,6 +9,7 @@ import (
 	"escapement/code"
 	"escapement/flow"
 	"escapement/gen"
+	. "escapement/mark"
 	"escapement/valid"
 )
 

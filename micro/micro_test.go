@@ -1,4 +1,4 @@
-package micro
+package micro_test
 
 import (
 	"fmt"
@@ -7,6 +7,7 @@ import (
 	"testing"
 
 	"escapement/cells"
+	. "escapement/micro"
 )
 
 func is(t *testing.T, what string, want string, got ...any) {
@@ -75,7 +76,6 @@ func TestNil(t *testing.T) { // P1402
 	var r *Ring
 	var k *Task
 	is(t, "nil", "true true true true false [] 0", r.Put(1, true) == nil, r.Get() == nil, r.Grab() == nil, k.Done(), k.Step(), k.Got(), k.Steps())
-	is(t, "zero", "true true", (&Ring{}).Get() == nil, (&Task{}).Done())
 }
 
 func TestPut(t *testing.T) { // P1403

@@ -1,4 +1,4 @@
-package model
+package model_test
 
 import (
 	"fmt"
@@ -8,6 +8,7 @@ import (
 
 	"escapement/api"
 	"escapement/asm"
+	. "escapement/model"
 	"escapement/valid"
 	"escapement/vm"
 )

@@ -1,4 +1,4 @@
-package note
+package note_test
 
 import (
 	"fmt"
@@ -6,6 +6,7 @@ import (
 	"testing"
 
 	"escapement/api"
+	. "escapement/note"
 )
 
 func is(t *testing.T, what string, want string, got ...any) {

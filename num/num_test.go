@@ -1,10 +1,12 @@
-package num
+package num_test
 
 import (
 	"fmt"
 	"math"
 	"slices"
 	"testing"
+
+	. "escapement/num"
 )
 
 func is(t *testing.T, what string, got, want any) {

@@ -1,4 +1,4 @@
-package pct
+package pct_test
 
 import (
 	"fmt"
@@ -8,6 +8,7 @@ import (
 
 	"escapement/api"
 	"escapement/gen"
+	. "escapement/pct"
 )
 
 func is(t *testing.T, what string, want string, got ...any) {

@@ -1,4 +1,4 @@
-package procs
+package procs_test
 
 import (
 	"fmt"
@@ -8,6 +8,7 @@ import (
 
 	"escapement/api"
 	"escapement/glob"
+	. "escapement/procs"
 )
 
 func is(t *testing.T, what string, want string, got ...any) {
@@ -63,10 +64,8 @@ func TestQueues(t *testing.T) { // P2303
 }
 
 func TestNil(t *testing.T) { // P2301 to P2303
-	for _, p := range []*Procs{nil, {}} {
-		is(t, "nil", "0 true [] 0 0 false 1", p.Len(), p.Ring(0) == nil, p.Queues(), p.Total(), most(p), int(p.Resize(1, nil)))
-	}
 	var p *Procs
+	is(t, "nil", "0 true [] 0 0 false 1", p.Len(), p.Ring(0) == nil, p.Queues(), p.Total(), most(p), int(p.Resize(1, nil)))
 	is(t, "nil, ahead of Range", "1", int(p.Resize(0, glob.New())))
 }
 

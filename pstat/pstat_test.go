@@ -1,4 +1,4 @@
-package pstat
+package pstat_test
 
 import (
 	"fmt"
@@ -6,6 +6,7 @@ import (
 	"testing"
 
 	"escapement/api"
+	. "escapement/pstat"
 )
 
 func is(t *testing.T, what string, want string, got ...any) {
@@ -18,7 +19,7 @@ func is(t *testing.T, what string, want string, got ...any) {
 // all: each processor's status, and who has it.
 func all(t *Table) string {
 	s := ""
-	for p := range len(t.procs) {
+	for p := range t.Len() + t.Count(api.PDead) {
 		s += fmt.Sprint(" ", t.Get(p), ":", t.Who(p))
 	}
 	return s
@@ -93,6 +94,9 @@ func TestNil(t *testing.T) { // P1901 to P1905
 	is(t, "nil", "0 0 -1 1 1 1 1 1 1 1 0", s.Len(), s.Get(0), s.Who(0), int(s.Take(0, 0)), int(s.Enter(0)), int(s.Leave(0, 0)), int(s.Release(0)), int(s.Stop(0)), int(s.Go(0)), int(s.Resize(1)), s.Count(0))
 	is(t, "nil, ahead of Range", "1 1", int(s.Take(0, -1)), int(s.Resize(0)))
 }
+
+// proc: a processor, and who has it.
+type proc struct{ status, m int }
 
 func TestLaw(t *testing.T) { // P1906
 	seed := uint64(6)

@@ -1,4 +1,4 @@
-package reach
+package reach_test
 
 import (
 	"fmt"
@@ -8,6 +8,7 @@ import (
 	"escapement/api"
 	"escapement/gen"
 	"escapement/model"
+	. "escapement/reach"
 )
 
 // reference: how many states there are behind at most depth events, told by a plain search; at most so many.

@@ -1,4 +1,4 @@
-package reach
+package reach_test
 
 import (
 	"fmt"
@@ -10,6 +10,7 @@ import (
 	"escapement/asm"
 	"escapement/gen"
 	"escapement/model"
+	. "escapement/reach"
 	"escapement/valid"
 )
 

@@ -1,4 +1,4 @@
-package ring
+package ring_test
 
 import (
 	"fmt"
@@ -7,6 +7,7 @@ import (
 	"testing"
 
 	"escapement/api"
+	. "escapement/ring"
 )
 
 func is(t *testing.T, what string, want string, got ...any) {
@@ -88,9 +89,8 @@ func TestFillDrain(t *testing.T) { // P1304
 }
 
 func TestNil(t *testing.T) { // P1301 to P1304
-	for _, r := range []*Ring{nil, {}} {
-		is(t, "nil", "[] 0 false [] [] 0 [] 0 [] 0", r.Put(1, true), get(r), r.Grab(), r.Fill([]int{1}), r.Len(), r.List(), r.Next(), r.Drain(), r.Size())
-	}
+	var r *Ring
+	is(t, "nil", "[] 0 false [] [] 0 [] 0 [] 0", r.Put(1, true), get(r), r.Grab(), r.Fill([]int{1}), r.Len(), r.List(), r.Next(), r.Drain(), r.Size())
 }
 
 func TestLaw(t *testing.T) { // P1305

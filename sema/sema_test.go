@@ -1,4 +1,4 @@
-package sema
+package sema_test
 
 import (
 	"fmt"
@@ -7,6 +7,7 @@ import (
 	"testing"
 
 	"escapement/api"
+	. "escapement/sema"
 )
 
 func is(t *testing.T, what string, want string, got ...any) {

@@ -1,4 +1,4 @@
-package shrink
+package shrink_test
 
 import (
 	"fmt"
@@ -8,6 +8,7 @@ import (
 	"escapement/api"
 	"escapement/gen"
 	"escapement/script"
+	. "escapement/shrink"
 )
 
 func is(t *testing.T, what string, want string, got ...any) {

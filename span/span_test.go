@@ -1,4 +1,4 @@
-package span
+package span_test
 
 import (
 	"fmt"
@@ -11,6 +11,7 @@ import (
 	"escapement/gen"
 	"escapement/machine"
 	"escapement/script"
+	. "escapement/span"
 	"escapement/valid"
 )
 

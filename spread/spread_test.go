@@ -1,10 +1,12 @@
-package spread
+package spread_test
 
 import (
 	"fmt"
 	"math"
 	"slices"
 	"testing"
+
+	. "escapement/spread"
 )
 
 func is(t *testing.T, what string, want string, got ...any) {

@@ -1,4 +1,4 @@
-package stress
+package stress_test
 
 import (
 	"fmt"
@@ -11,6 +11,7 @@ import (
 	"escapement/gen"
 	"escapement/machine"
 	"escapement/pct"
+	. "escapement/stress"
 )
 
 func is(t *testing.T, what string, want string, got ...any) {
@@ -95,11 +96,6 @@ func TestRun(t *testing.T) { // P4402
 	if want.Held == 0 || want.Held == 30 {
 		t.Error("the test says little", want)
 	}
-}
-
-func TestWrong(t *testing.T) { // P4402
-	good := []api.Event{{Kind: api.EvCommit, G: 1}}
-	is(t, "wrong", "false true true true", ended{nil, good, ""}.wrong(exit, conf), ended{nil, good, "places"}.wrong(exit, conf), ended{nil, append(good, good...), ""}.wrong(exit, conf), ended{nil, append(good, good...), "procs"}.wrong(exit, conf))
 }
 
 func TestUnlike(t *testing.T) { // P4403

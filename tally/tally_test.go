@@ -1,4 +1,4 @@
-package tally
+package tally_test
 
 import (
 	"fmt"
@@ -6,6 +6,7 @@ import (
 	"testing"
 
 	"escapement/api"
+	. "escapement/tally"
 )
 
 func is(t *testing.T, what string, want string, got ...any) {

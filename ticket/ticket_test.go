@@ -1,4 +1,4 @@
-package ticket
+package ticket_test
 
 import (
 	"fmt"
@@ -7,6 +7,7 @@ import (
 
 	"escapement/api"
 	"escapement/cells"
+	. "escapement/ticket"
 )
 
 func is(t *testing.T, what string, want string, got ...any) {
@@ -75,8 +76,6 @@ func TestWaits(t *testing.T) { // P403
 func TestNil(t *testing.T) { // P402, P403
 	var l *Lock
 	is(t, "nil", "0 1 false 1 1 0", take(l), mine(l, 0), l.Leave(0), l.Waits())
-	l = &Lock{}
-	is(t, "zero", "0 1 false 1 1 0", take(l), mine(l, 0), l.Leave(0), l.Waits())
 }
 
 func TestLaw(t *testing.T) { // P404

@@ -1,4 +1,4 @@
-package vm
+package vm_test
 
 import (
 	"fmt"
@@ -8,6 +8,7 @@ import (
 	"escapement/api"
 	"escapement/asm"
 	"escapement/isa"
+	. "escapement/vm"
 )
 
 func is(t *testing.T, what string, want string, got ...any) {

@@ -1,4 +1,4 @@
-package weave
+package weave_test
 
 import (
 	"fmt"
@@ -8,6 +8,7 @@ import (
 
 	"escapement/api"
 	"escapement/cells"
+	. "escapement/weave"
 )
 
 func is(t *testing.T, what string, want string, got ...any) {
